@@ -35,6 +35,11 @@ def is_within(small, large):
     return all([letter in large for letter in small])
 
 
+def joined(one, other):
+    """The set of all letters of two sets."""
+    return _picked(COLUMNS + ROW, one + other)
+
+
 def is_dependence(columns, thing):
     """Whether a value is a dependence over these columns."""
     if not isinstance(thing, tuple) or len(thing) != 2:

@@ -47,3 +47,11 @@ def refuses(test, wanted, name, value, work, *given, **named):
     """Checks that a call raises the wanted error with this value in its attribute."""
     error = raised(test, wanted, work, *given, **named)
     test.assertTrue(same(getattr(error, name), value), f"{wanted.__name__}.{name} holds another value")
+
+
+def compares(test, one, other, wanted):
+    """Checks that two values are equal, or that they are not, from both sides."""
+    test.assertIs(one == other, wanted)
+    test.assertIs(other == one, wanted)
+    test.assertIs(one != other, not wanted)
+    test.assertIs(other != one, not wanted)

@@ -15,11 +15,33 @@ LISTED = {
         "is_fraction": ["thing"], "fraction": ["top", "bottom"], "added": ["fractions"], "multiplied": ["fractions"],
     },
     "schemes": {"Scheme": ["columns", "dependences"]},
+    "tables": {"Table": ["columns", "rows"]},
+    "reports": {"Report": ["scheme"]},
+    "forms": {
+        "form": ["report"], "product_at": ["product", "table", "at"], "counted": ["report", "table", "at"],
+        "by_form": ["report", "table"],
+    },
+    "parting": {
+        "test": ["scheme", "lower", "upper"], "single_test": ["scheme"], "alike": ["one", "other"],
+        "parted": ["one", "other"],
+    },
 }
 METHODS = {
     ("schemes", "Scheme"): {"closure": ["letters"], "closed_sets": [], "with_more": ["dependences"]},
+    ("tables", "Table"): {
+        "groups": ["letters"], "broken": ["scheme"], "__len__": [], "__getitem__": ["at"], "__mul__": ["other"],
+    },
+    ("reports", "Report"): {
+        "summed": ["letters"], "mean": ["letters"], "weighed": ["letters", "weight"], "share": ["letters", "weight"],
+        "times": ["letters"], "over": ["letters"], "parts": [], "under": ["dependences"], "__call__": ["table"],
+        "__len__": [], "__add__": ["other"], "__sub__": ["other"],
+    },
 }
-PROPERTIES = {("schemes", "Scheme"): ["columns", "dependences"]}
+PROPERTIES = {
+    ("schemes", "Scheme"): ["columns", "dependences"], ("tables", "Table"): ["columns", "rows"],
+    ("reports", "Report"): ["scheme", "level"],
+}
+COMPARED = [("tables", "Table"), ("reports", "Report"), ("schemes", "Scheme")]
 
 
 def listed(module, name):
@@ -59,6 +81,19 @@ class Names(unittest.TestCase):
             body = vars(listed(module, name))
             for one in properties:
                 self.assertIsInstance(body[one], property, one)
+
+    def test_equality_stands_in_the_class_itself(self):
+        for module, name in COMPARED:
+            self.assertIn("__eq__", vars(listed(module, name)), name)
+
+    def test_none_takes_anything_else_by_default(self):
+        for module, names in LISTED.items():
+            for name, wanted in names.items():
+                if wanted is not None:
+                    defaults = [one for one in inspect.signature(listed(module, name)).parameters.values()
+                                if one.default is not inspect.Parameter.empty]
+                    self.assertEqual([one.name for one in defaults],
+                                     {"fraction": ["bottom"], "Scheme": ["dependences"]}.get(name, []), name)
 
     def test_defaults(self):
         self.assertEqual(inspect.signature(listed("exact", "fraction")).parameters["bottom"].default, 1)

@@ -6,34 +6,10 @@ import unittest
 
 from meanways.errors import BadColumns, BadDependence, BadSet, TooMany
 from meanways.schemes import Scheme
-from some_values import any_values, refuses, same
+from reference import ALL_COLUMNS, dependences_of, grown, sets_of
+from some_values import any_values, compares, refuses, same
 
-ALL_COLUMNS = ["".join(some) for many in (1, 2, 3, 4) for some in itertools.combinations("abcd", many)]
 CHAIN = [("a", "b"), ("b", "c"), ("c", "d"), ("d", "r")]
-
-
-def sets_of(columns):
-    """All sets over some columns, ordered by length, then ascending."""
-    letters = columns + "r"
-    return ["".join(some) for many in range(len(letters) + 1) for some in itertools.combinations(letters, many)]
-
-
-def dependences_of(columns):
-    return [(letters, letter) for letters in sets_of(columns) for letter in columns + "r"]
-
-
-def grown(columns, dependences, letters):
-    """The closure, letter by letter, as point [12] tells it."""
-    held = set(letters)
-    while True:
-        before = len(held)
-        if "r" in held:
-            held |= set(columns)
-        for given, letter in dependences:
-            if set(given) <= held:
-                held.add(letter)
-        if len(held) == before:
-            return "".join(sorted(held))
 
 
 def some_dependences(columns):
@@ -379,34 +355,29 @@ class Imitation:
 
 class Equality(unittest.TestCase):
 
-    def check(self, one, other, wanted):
-        self.assertIs(one == other, wanted)
-        self.assertIs(other == one, wanted)
-        self.assertIs(one != other, not wanted)
-        self.assertIs(other != one, not wanted)
-
     def test_equal_to_itself_and_its_like(self):
         for columns in ALL_COLUMNS:
             one = Scheme(columns, [("", "r")])
-            self.check(one, one, True)
-            self.check(one, Scheme(columns, (("", "r"),)), True)
+            compares(self, one, one, True)
+            compares(self, one, Scheme(columns, (("", "r"),)), True)
 
     def test_unlike_dependences_with_the_same_closed_sets(self):
-        self.check(Scheme("ab", [("a", "b"), ("b", "r")]), Scheme("ab", [("a", "r"), ("b", "a")]), True)
-        self.check(Scheme("ab", [("a", "a"), ("r", "b")]), Scheme("ab"), True)
-        self.check(Scheme("ab", [("a", "b"), ("b", "r")]), Scheme("ab", [("b", "r"), ("a", "b")]), True)
-        self.check(Scheme("abc", [("a", "b"), ("b", "c"), ("a", "c")]), Scheme("abc", [("a", "b"), ("b", "c")]), True)
+        compares(self, Scheme("ab", [("a", "b"), ("b", "r")]), Scheme("ab", [("a", "r"), ("b", "a")]), True)
+        compares(self, Scheme("ab", [("a", "a"), ("r", "b")]), Scheme("ab"), True)
+        compares(self, Scheme("ab", [("a", "b"), ("b", "r")]), Scheme("ab", [("b", "r"), ("a", "b")]), True)
+        chained = Scheme("abc", [("a", "b"), ("b", "c")])
+        compares(self, Scheme("abc", [("a", "b"), ("b", "c"), ("a", "c")]), chained, True)
 
     def test_other_closed_sets(self):
-        self.check(Scheme("ab", [("a", "b")]), Scheme("ab"), False)
-        self.check(Scheme("ab", [("a", "b")]), Scheme("ab", [("b", "a")]), False)
-        self.check(Scheme("ab", [("ab", "r")]), Scheme("ab"), False)
-        self.check(Scheme("ab", [("a", "r")]), Scheme("ab", [("a", "b")]), False)
+        compares(self, Scheme("ab", [("a", "b")]), Scheme("ab"), False)
+        compares(self, Scheme("ab", [("a", "b")]), Scheme("ab", [("b", "a")]), False)
+        compares(self, Scheme("ab", [("ab", "r")]), Scheme("ab"), False)
+        compares(self, Scheme("ab", [("a", "r")]), Scheme("ab", [("a", "b")]), False)
 
     def test_other_columns(self):
         for one, other in itertools.product(ALL_COLUMNS, repeat=2):
-            self.check(Scheme(one), Scheme(other), one == other)
-            self.check(Scheme(one, [("", "r")]), Scheme(other, [("", "r")]), one == other)
+            compares(self, Scheme(one), Scheme(other), one == other)
+            compares(self, Scheme(one, [("", "r")]), Scheme(other, [("", "r")]), one == other)
 
     def test_a_spread(self):
         some = [[], *([one] for one in dependences_of("ab")), *itertools.combinations(dependences_of("ab"), 2)]
@@ -419,12 +390,12 @@ class Equality(unittest.TestCase):
         scheme = Scheme("ab")
         others = [value for value in any_values() if not isinstance(value, Scheme)]
         for other in [*others, Imitation(), ("ab", ()), scheme.closed_sets(), object(), Scheme]:
-            self.check(scheme, other, False)
+            compares(self, scheme, other, False)
 
     def test_comparing_changes_nothing(self):
         one, other = Scheme("ab", [("a", "b")]), Scheme("ab", [("b", "r")])
         before = copy.deepcopy((vars(one), vars(other)))
-        self.check(one, other, False)
+        compares(self, one, other, False)
         self.assertEqual((vars(one), vars(other)), before)
 
 
