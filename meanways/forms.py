@@ -27,7 +27,7 @@ def _factors(scheme, part):
     return _many_factors(scheme.closure(joined(letters, level)), level, 1 if word == "times" else -1)
 
 
-def _with_factors(product, more):
+def with_factors(product, more):
     """The product times further factors."""
     powers = {factor[:3]: factor[3] for factor in product}
     for kind, first, second, power in more:
@@ -51,12 +51,17 @@ def _terms(scheme, part):
     if part[0] in SIGNS:
         return joined_terms(terms, _terms(scheme, part[2]), SIGNS[part[0]])
     more = _factors(scheme, part)
-    return {_with_factors(product, more): terms[product] for product in terms}
+    return {with_factors(product, more): terms[product] for product in terms}
+
+
+def terms_over(scheme, report):
+    """The terms, as a dict, that a report has over a scheme to which its steps belong, too."""
+    return _terms(scheme, report.parts())
 
 
 def terms_of(report):
     """The terms of a report, as a dict."""
-    return _terms(report.scheme, report.parts())
+    return terms_over(report.scheme, report)
 
 
 def form(report):

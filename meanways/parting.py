@@ -35,11 +35,15 @@ def single_test(scheme):
     return Table(scheme.columns, [((0,) * len(scheme.columns), 1, 5, 7)])
 
 
+def strict_pairs(scheme):
+    """All pairs of closed sets, the one within the other and not equal to it, ordered by length, then ascending."""
+    closed = scheme.closed_sets()
+    return [(lower, upper) for lower in closed for upper in closed if lower != upper and is_within(lower, upper)]
+
+
 def strict_tests(scheme):
     """The tests for all pairs of unequal closed sets, ordered by the lower one, then by the upper one."""
-    closed = scheme.closed_sets()
-    return [test(scheme, lower, upper) for lower in closed for upper in closed
-            if lower != upper and is_within(lower, upper)]
+    return [test(scheme, lower, upper) for lower, upper in strict_pairs(scheme)]
 
 
 def alike(one, other):
@@ -50,17 +54,16 @@ def alike(one, other):
 
 def _sum_at(terms, lot):
     """What the terms add up to at row 0 of the table product of a lot of tests."""
-    return added([multiplied([fraction(terms[product])] + [product_at(product, one, 0) for one in lot])
-                  for product in terms])
+    return added([multiplied([terms[product]] + [product_at(product, one, 0) for one in lot]) for product in terms])
 
 
-def _parting_lot(terms, offered):
-    """A lot of the offered tests, fewer than the terms, at which these do not add up to 0."""
+def parting_lot(terms, offered):
+    """A lot of the offered tests, fewer than the terms, at which these, with fractions, do not add up to 0."""
     for one in offered:
         told = {product: product_at(product, one, 0) for product in terms}
         worths = list(told.values())
         if worths.count(worths[0]) < len(worths):
-            lot = _parting_lot({product: terms[product] for product in terms if told[product] == worths[0]}, offered)
+            lot = parting_lot({product: terms[product] for product in terms if told[product] == worths[0]}, offered)
             # Each time that this test joins the lot, the terms are multiplied by their worths. Those of the first worth
             # do not add up to 0 at the lot, so unlike worths end this loop, at the latest at the number of the others.
             while _sum_at(terms, lot) == (0, 1):
@@ -79,6 +82,7 @@ def parted(one, other):
     if len(terms) > MOST_UNLIKE:
         raise TooMany(MOST_UNLIKE)
     table = single_test(one.scheme)
-    for more in _parting_lot(terms, strict_tests(one.scheme)):
+    unlike = {product: fraction(terms[product]) for product in terms}
+    for more in parting_lot(unlike, strict_tests(one.scheme)):
         table = table * more
     return (table, group_name(table, one.level, 0))

@@ -112,7 +112,7 @@ def by_names(table, level, told):
     return {name: named[name] for name in sorted(list(named))}
 
 
-def _made(scheme, part):
+def made(scheme, part):
     """The report over a scheme that is made in the way of this part; TooMany if it has too many parts."""
     if len(_all_parts(part)) > MOST_PARTS:
         raise TooMany(MOST_PARTS)
@@ -143,32 +143,32 @@ class Report:
     def summed(self, letters):
         """The report of the sums over a set."""
         _check_narrower(self, letters)
-        return _made(self._scheme, ("sum", self._part, letters))
+        return made(self._scheme, ("sum", self._part, letters))
 
     def mean(self, letters):
         """The report of the means over a set."""
         _check_narrower(self, letters)
-        return _made(self._scheme, ("mean", self._part, letters))
+        return made(self._scheme, ("mean", self._part, letters))
 
     def weighed(self, letters, weight):
         """The report of the means over a set in which each group counts by its weight."""
         _check_weighed(self, letters, weight)
-        return _made(self._scheme, ("weighed", self._part, letters, weight))
+        return made(self._scheme, ("weighed", self._part, letters, weight))
 
     def share(self, letters, weight):
         """The report of the parts that the groups have by their weights in the groups for a set."""
         _check_weighed(self, letters, weight)
-        return _made(self._scheme, ("share", self._part, letters, weight))
+        return made(self._scheme, ("share", self._part, letters, weight))
 
     def times(self, letters):
         """The report times how many groups for a set and the level together there are."""
         self._scheme.closure(letters)  # only for its error: the set itself is kept
-        return _made(self._scheme, ("times", self._part, letters))
+        return made(self._scheme, ("times", self._part, letters))
 
     def over(self, letters):
         """The report divided by how many groups for a set and the level together there are."""
         self._scheme.closure(letters)  # only for its error: the set itself is kept
-        return _made(self._scheme, ("over", self._part, letters))
+        return made(self._scheme, ("over", self._part, letters))
 
     def parts(self):
         """The report as nested tuples, which tell how it is made."""
@@ -176,7 +176,7 @@ class Report:
 
     def under(self, dependences):
         """The report with the same steps over the scheme with further dependences."""
-        return _made(self._scheme.with_more(dependences), self._part)
+        return made(self._scheme.with_more(dependences), self._part)
 
     def __call__(self, table):
         check_table(self._scheme, table)
@@ -186,13 +186,13 @@ class Report:
         if not isinstance(other, Report):
             return NotImplemented
         check_same_level(self, other)
-        return _made(self._scheme, ("plus", self._part, other._part))
+        return made(self._scheme, ("plus", self._part, other._part))
 
     def __sub__(self, other):
         if not isinstance(other, Report):
             return NotImplemented
         check_same_level(self, other)
-        return _made(self._scheme, ("minus", self._part, other._part))
+        return made(self._scheme, ("minus", self._part, other._part))
 
     def __len__(self):
         return len(_all_parts(self._part))

@@ -40,6 +40,11 @@ def joined(one, other):
     return _picked(COLUMNS + ROW, one + other)
 
 
+def shared(one, other):
+    """The set of the letters that are in both sets."""
+    return _picked(one, other)
+
+
 def is_dependence(columns, thing):
     """Whether a value is a dependence over these columns."""
     if not isinstance(thing, tuple) or len(thing) != 2:
@@ -71,6 +76,14 @@ def _all_closed(columns, dependences):
     """The tuple of all closed sets, ordered by length, then ascending."""
     found = [one for one in _all_sets(columns + ROW) if _is_closed(columns, dependences, one)]
     return tuple(sorted(found, key=lambda one: (len(one), one)))
+
+
+def widened(scheme, more):
+    """The scheme with further dependences, however many there are then."""
+    wide = Scheme(scheme.columns)
+    wide._dependences = scheme.dependences + tuple(more)
+    wide._closed = tuple([one for one in scheme.closed_sets() if _is_closed(scheme.columns, more, one)])
+    return wide
 
 
 class Scheme:

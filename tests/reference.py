@@ -206,3 +206,70 @@ def test_rows(columns, greatest, lower, upper):
     if upper == greatest:
         return ((keys[0], 1, 1, 1), (keys[1], 0, 4, 6))
     return ((keys[0], 1, 1, 1), (keys[1], 0, 1, 1), (keys[2], 0, 3, 5))
+
+
+def tests_of(scheme):
+    """The columns and rows of the tests of a scheme, in their order: point [42]."""
+    columns = scheme.columns
+    greatest = closure(scheme, "r")
+    closed = {closure(scheme, letters) for letters in sets_of(columns)}
+    pairs = [(lower, upper) for lower in closed for upper in closed if set(lower) < set(upper)]
+    pairs = sorted(pairs, key=lambda pair: (len(pair[0]), pair[0], len(pair[1]), pair[1]))
+    single = (((0,) * len(columns), 1, 5, 7),)
+    return pairs, [single] + [test_rows(columns, greatest, lower, upper) for lower, upper in pairs]
+
+
+def simple(columns):
+    """All simple dependences, ascending: point [50]."""
+    return sorted((column, letter) for column in columns for letter in columns + "r" if column != letter)
+
+
+def divided(one, other):
+    """A product divided by another one, as point [30] writes it."""
+    powers = collections.Counter()
+    for product, sign in ((one, 1), (other, -1)):
+        for factor in product:
+            powers[factor[:3]] += sign * factor[3]
+    return tuple(sorted(what + (power,) for what, power in powers.items() if power))
+
+
+def quotients(kept, report):
+    """Each term of a form divided by the single term of the kept one: the product, and a Fraction."""
+    (base, times), = kept[1]
+    return [(divided(product, base), Fraction(number, times)) for product, number in report[1]]
+
+
+def is_seen(level, factor):
+    """Whether a factor is seen at a level: point [60]."""
+    return factor[0] == "many" and set(factor[1]) <= set(level)
+
+
+def worked_out(kept, report):
+    """What worked_out(..) must be, from both forms."""
+    found = quotients(kept, report)
+    if any(not is_seen(kept[0], factor) for product, _ in found for factor in product):
+        return None
+    return sorted((product, pair(number)) for product, number in found)
+
+
+def least(many, suffices):
+    """All ascending tuples of numbers that suffice, while no part of them does: by length, then ascending."""
+    right = [lot for size in range(many + 1) for lot in itertools.combinations(range(many), size) if suffices(lot)]
+    return [lot for lot in right if not any(set(less) < set(lot) for less in right)]
+
+
+def lost_or_changed(before, now):
+    """The names of what is told just once, or with another fraction."""
+    return sorted(name for name in {**before, **now} if name not in before or name not in now
+                  or before[name] != now[name])
+
+
+def from_kept(kept_told, kept_level, level, found, table):
+    """What a report of a level tells of a table, from what the kept one tells and what worked_out(..) has found."""
+    columns, rows = table.columns, table.rows
+    worths = {}
+    for one in groups(columns, rows, kept_level):
+        times = sum((Fraction(*number) * product_at(product, table, one[0]) for product, number in found), Fraction(0))
+        at = name(columns, rows, level, one[0])
+        worths[at] = worths.get(at, 0) + times * Fraction(*kept_told[name(columns, rows, kept_level, one[0])])
+    return {at: pair(Fraction(worths[at])) for at in sorted(worths)}
