@@ -111,6 +111,22 @@ class Form(unittest.TestCase):
                 if "__len__" in methods:
                     self.assertRegex(ast.unparse(methods["__len__"].body[0]), r"^return len\(.*\)$")
 
+    def test_only_own_errors_are_caught_and_by_name(self):
+        own = {node.name for name, node in nodes() if name == "errors" and isinstance(node, ast.ClassDef)}
+        for name, node in nodes():
+            if isinstance(node, ast.ExceptHandler):
+                caught = node.type.elts if isinstance(node.type, ast.Tuple) else [node.type]
+                self.assertLessEqual({one.id for one in caught}, own, name)
+                self.assertIsNone(node.name, name)
+
+    def test_what_stands_in_an_exit(self):
+        for name, node in nodes():
+            if isinstance(node, ast.FunctionDef) and node.name == "__exit__":
+                for one in ast.walk(node):
+                    if isinstance(one, ast.stmt) and one is not node:
+                        self.assertIsInstance(one, (ast.If, ast.Assign), name)
+                    self.assertNotIsInstance(one, (ast.Call, ast.Subscript, ast.BinOp), name)
+
     def test_is_stands_beside_none_true_and_false(self):
         for name, node in nodes():
             if isinstance(node, ast.Compare) and isinstance(node.ops[0], (ast.Is, ast.IsNot)):

@@ -25,6 +25,19 @@ LISTED = {
         "test": ["scheme", "lower", "upper"], "single_test": ["scheme"], "alike": ["one", "other"],
         "parted": ["one", "other"],
     },
+    "telling": {
+        "tests": ["scheme"], "told_back": ["scheme", "answers"], "telling_lots": ["reports", "tables"],
+    },
+    "depending": {"simple": ["scheme"], "least_dependences": ["one", "other"]},
+    "keeping": {
+        "worked_out": ["kept", "report"], "two_tables": ["kept", "report"], "least_lots": ["kepts", "reports"],
+    },
+    "live": {"Live": ["scheme"]},
+    "texts": {
+        "report_text": ["report"], "read_report": ["scheme", "text"], "table_text": ["table"], "read_table": ["text"],
+    },
+    "logs": {"log_of": ["live"], "first_wrong": ["scheme", "log"], "replayed": ["scheme", "log"]},
+    "desk": {"Desk": ["scheme"]},
 }
 METHODS = {
     ("schemes", "Scheme"): {"closure": ["letters"], "closed_sets": [], "with_more": ["dependences"]},
@@ -36,10 +49,15 @@ METHODS = {
         "times": ["letters"], "over": ["letters"], "parts": [], "under": ["dependences"], "__call__": ["table"],
         "__len__": [], "__add__": ["other"], "__sub__": ["other"],
     },
+    ("live", "Live"): {
+        "add": ["row"], "drop": ["at"], "tell": ["report"], "changed": ["report"], "undo": [], "attempt": ["work"],
+        "copy": [], "__enter__": [], "__exit__": ["kind", "value", "trace"],
+    },
+    ("desk", "Desk"): {"say": ["row"]},
 }
 PROPERTIES = {
     ("schemes", "Scheme"): ["columns", "dependences"], ("tables", "Table"): ["columns", "rows"],
-    ("reports", "Report"): ["scheme", "level"],
+    ("reports", "Report"): ["scheme", "level"], ("live", "Live"): ["scheme", "table"],
 }
 COMPARED = [("tables", "Table"), ("reports", "Report"), ("schemes", "Scheme")]
 
